@@ -1,0 +1,50 @@
+// Package redact: a gate that passes on what its receiver may see: see DOC.md.
+package redact
+
+import (
+	"redact/api"
+	"redact/config"
+)
+
+// Check tells whether a configuration is right, or what is wrong; of a policy the line (P3).
+func Check(c api.Config) (api.Errno, int) {
+	_, errno, line := config.Read(c)
+	return errno, line
+}
+
+// Leq tells whether a label is another, or below it (P4).
+func Leq(c api.Config, a int, b int) (bool, api.Errno) {
+	setup, errno, _ := config.Read(c)
+	if errno != api.OK {
+		return false, errno
+	}
+	if !setup.Order.Has(a) || !setup.Order.Has(b) {
+		return false, api.ErrArg
+	}
+	return setup.Order.AtMost(a, b), api.OK
+}
+
+// Label tells the label and the action of a path (P5).
+func Label(c api.Config, path []api.Step) (int, int, api.Errno) { return 0, 0, api.OK }
+
+// Transcode reads a document in one format and writes it in another (P6).
+func Transcode(in int, out int, depth int, limit int, b []byte) ([]byte, api.Errno, int) {
+	return nil, api.OK, 0
+}
+
+// Unpad takes the padding away (P7).
+func Unpad(format int, b []byte) ([]byte, api.Errno) { return nil, api.OK }
+
+// Gate reads a document, piece by piece.
+type Gate struct{}
+
+// Open opens a gate (P8).
+func Open(c api.Config) (*Gate, api.Errno) { return nil, api.OK }
+
+// Feed hands in the next piece (P9).
+func (g *Gate) Feed(b []byte) api.Errno { return api.OK }
+
+// Close gives the document that goes out (P10).
+func (g *Gate) Close() ([]byte, api.Report, api.Errno, int) {
+	return nil, api.Report{}, api.OK, 0
+}
