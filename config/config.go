@@ -19,7 +19,7 @@ func Read(c api.Config) (Setup, api.Errno, int) {
 	switch {
 	case errno != api.OK:
 		return Setup{}, errno, 0
-	case !limitsOK(c):
+	case !LimitsOK(c.In, c.Out, c.Depth, c.Bytes):
 		return Setup{}, api.ErrLimits, 0
 	case !bucketsOK(c.Buckets):
 		return Setup{}, api.ErrBuckets, 0
@@ -44,13 +44,15 @@ func readOrder(c api.Config) (labels.Order, api.Errno) {
 	return order, api.OK
 }
 
-func limitsOK(c api.Config) bool {
-	return isFormat(c.In) && isFormat(c.Out) &&
-		c.Depth >= 1 && c.Depth <= api.MaxDepth &&
-		c.Bytes >= 1 && c.Bytes <= api.MaxBytes
+// LimitsOK tells whether the formats of what comes in and goes out are formats, and whether the limits of the reading are within their bounds.
+func LimitsOK(in, out, depth, bytes int) bool {
+	return IsFormat(in) && IsFormat(out) &&
+		depth >= 1 && depth <= api.MaxDepth &&
+		bytes >= 1 && bytes <= api.MaxBytes
 }
 
-func isFormat(format int) bool {
+// IsFormat tells whether a number is one of the formats.
+func IsFormat(format int) bool {
 	return format == api.JSON || format == api.CBOR || format == api.Pack
 }
 

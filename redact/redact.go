@@ -2,8 +2,14 @@
 package redact
 
 import (
+	"bytes"
+
 	"redact/api"
 	"redact/config"
+	"redact/padding"
+	"redact/reading"
+	"redact/things"
+	"redact/writing"
 )
 
 // Check tells whether a configuration is right, or what is wrong; of a policy the line (P3).
@@ -29,11 +35,34 @@ func Label(c api.Config, path []api.Step) (int, int, api.Errno) { return 0, 0, a
 
 // Transcode reads a document in one format and writes it in another (P6).
 func Transcode(in int, out int, depth int, limit int, b []byte) ([]byte, api.Errno, int) {
-	return nil, api.OK, 0
+	if !config.LimitsOK(in, out, depth, limit) {
+		return nil, api.ErrArg, 0
+	}
+	document, errno, place := attempt(func() things.Thing {
+		return reading.Document(in, reading.Limits{Depth: depth, Bytes: limit}, b)
+	})
+	switch {
+	case errno != api.OK:
+		return nil, errno, place
+	case out == api.JSON && things.HasBytes(document):
+		return nil, api.ErrKind, 0
+	}
+	return writing.Document(out, document), api.OK, 0
 }
 
 // Unpad takes the padding away (P7).
-func Unpad(format int, b []byte) ([]byte, api.Errno) { return nil, api.OK }
+func Unpad(format int, b []byte) ([]byte, api.Errno) {
+	if !config.IsFormat(format) || len(b) > api.MaxBucket {
+		return nil, api.ErrArg
+	}
+	length, errno, _ := attempt(func() int {
+		return reading.First(format, reading.Limits{Depth: api.MaxDepth, Bytes: len(b)}, b)
+	})
+	if errno != api.OK || !padding.IsFill(format, b[length:]) {
+		return nil, api.ErrForm
+	}
+	return bytes.Clone(b[:length]), api.OK
+}
 
 // Gate reads a document, piece by piece.
 type Gate struct{}
