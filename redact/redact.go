@@ -5,6 +5,7 @@ import (
 	"bytes"
 
 	"redact/api"
+	"redact/automaton"
 	"redact/config"
 	"redact/padding"
 	"redact/reading"
@@ -31,7 +32,34 @@ func Leq(c api.Config, a int, b int) (bool, api.Errno) {
 }
 
 // Label tells the label and the action of a path (P5).
-func Label(c api.Config, path []api.Step) (int, int, api.Errno) { return 0, 0, api.OK }
+func Label(c api.Config, path []api.Step) (int, int, api.Errno) {
+	setup, errno, _ := config.Read(c)
+	if errno != api.OK {
+		return 0, 0, errno
+	}
+	if !isPath(path) {
+		return 0, 0, api.ErrArg
+	}
+	rules := automaton.Compile(setup.Rules, c.Default)
+	state := automaton.Start
+	for _, step := range path {
+		state = rules.Next(state, step)
+	}
+	label, action := rules.Verdict(state)
+	return label, action, api.OK
+}
+
+func isPath(path []api.Step) bool {
+	if len(path) > api.MaxBytes {
+		return false
+	}
+	for _, step := range path {
+		if step.Index && step.Key != "" {
+			return false
+		}
+	}
+	return true
+}
 
 // Transcode reads a document in one format and writes it in another (P6).
 func Transcode(in int, out int, depth int, limit int, b []byte) ([]byte, api.Errno, int) {
