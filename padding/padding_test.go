@@ -21,3 +21,21 @@ func TestIsFill(t *testing.T) {
 		}
 	}
 }
+
+func TestFill(t *testing.T) {
+	for _, k := range []struct {
+		format  int
+		text    string
+		buckets []int
+		want    string
+		ok      bool
+	}{
+		{api.JSON, "123", nil, "123", true}, {api.JSON, "123", []int{}, "123", true}, {api.JSON, "123", []int{3}, "123", true}, {api.JSON, "123", []int{1, 2, 5, 6}, "123  ", true},
+		{api.CBOR, "\x01", []int{1, 2}, "\x01", true}, {api.CBOR, "\x41 ", []int{1, 4}, "\x41 \x00\x00", true}, {api.Pack, "\x01", []int{3}, "\x01\x00\x00", true},
+		{api.JSON, "123", []int{2}, "", false}, {api.Pack, "123", []int{1, 2}, "", false},
+	} {
+		if got, ok := Fill(k.format, []byte(k.text), k.buckets); string(got) != k.want || ok != k.ok {
+			t.Errorf("Fill(%d, %q, %v) = %q, %v, want %q, %v", k.format, k.text, k.buckets, got, ok, k.want, k.ok)
+		}
+	}
+}

@@ -92,7 +92,8 @@ segments:
 		if !isLiteral(piece) {
 			return nil, false
 		}
-		pattern = append(pattern, Segment{Kind: KeyStep, Key: piece})
+		// Rules may outlive the text, which is not ours to keep.
+		pattern = append(pattern, Segment{Kind: KeyStep, Key: strings.Clone(piece)})
 	}
 	return pattern, true
 }

@@ -6,6 +6,7 @@ import (
 	"strings"
 	"testing"
 	"unicode/utf8"
+	"unsafe"
 
 	"redact/api"
 )
@@ -169,5 +170,21 @@ func TestLabelsOfRules(t *testing.T) {
 				t.Errorf("of %d labels, the byte %d as a label: %d", labels, char, e)
 			}
 		}
+	}
+}
+
+// TestReadKeepsNothing: rules share no memory with the text.
+func TestReadKeepsNothing(t *testing.T) {
+	text := []byte("user/*/ssn 1 drop")
+	rules, errno, _ := Read(unsafe.String(&text[0], len(text)), 2)
+	if errno != api.OK {
+		t.Fatalf("Read = %d", errno)
+	}
+	for i := range text {
+		text[i] = '#'
+	}
+	want := []Segment{{KeyStep, "user"}, {AnyStep, ""}, {KeyStep, "ssn"}}
+	if !reflect.DeepEqual(rules[0].Pattern, want) {
+		t.Errorf("the pattern is %v", rules[0].Pattern)
 	}
 }

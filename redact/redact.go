@@ -69,13 +69,19 @@ func Transcode(in int, out int, depth int, limit int, b []byte) ([]byte, api.Err
 	document, errno, place := attempt(func() things.Thing {
 		return reading.Document(in, reading.Limits{Depth: depth, Bytes: limit}, b)
 	})
-	switch {
-	case errno != api.OK:
+	if errno != api.OK {
 		return nil, errno, place
-	case out == api.JSON && things.HasBytes(document):
-		return nil, api.ErrKind, 0
 	}
-	return writing.Document(out, document), api.OK, 0
+	written, errno := write(out, document)
+	return written, errno, 0
+}
+
+// write writes a document, if the format has all the things that are in it.
+func write(format int, document things.Thing) ([]byte, api.Errno) {
+	if format == api.JSON && things.HasBytes(document) {
+		return nil, api.ErrKind
+	}
+	return writing.Document(format, document), api.OK
 }
 
 // Unpad takes the padding away (P7).
@@ -90,18 +96,4 @@ func Unpad(format int, b []byte) ([]byte, api.Errno) {
 		return nil, api.ErrForm
 	}
 	return bytes.Clone(b[:length]), api.OK
-}
-
-// Gate reads a document, piece by piece.
-type Gate struct{}
-
-// Open opens a gate (P8).
-func Open(c api.Config) (*Gate, api.Errno) { return nil, api.OK }
-
-// Feed hands in the next piece (P9).
-func (g *Gate) Feed(b []byte) api.Errno { return api.OK }
-
-// Close gives the document that goes out (P10).
-func (g *Gate) Close() ([]byte, api.Report, api.Errno, int) {
-	return nil, api.Report{}, api.OK, 0
 }
